@@ -219,8 +219,8 @@ func deepestOf(l []string, first int) int {
 			base, now = blocks, blocks
 		case class == "(" && ahead == "if", class == "[" && i > 1 && strings.Contains("{ } ;", l[i-2]):
 			outer = append(outer, blocks)
-			base = blocks
-			count(blocks)
+			base = blocks + 1
+			count(base)
 		case class == "(" || class == "[":
 			outer = append(outer, base)
 			base = now + 1
@@ -263,8 +263,8 @@ func TestGrammar(t *testing.T) {
 		}
 	}
 	for text, want := range map[string]int{
-		"harts 1": 0, "harts 1 task t 0 1": 0, "harts 1 task t 0 1 {": 1, "harts 1 task t 0 1 { x = 1; }": 1, "harts 1 task t 0 1 { x = (1); }": 2, "harts 1 task t 0 1 { if (1) { } }": 2, "harts 1 task t 0 1 { if (1)": 1, "harts 1 task t 0 1 { if ((1))": 2,
-		"harts 1 task t 0 1 { r[1] = 1; }": 1, "harts 1 task t 0 1 { r[(1)] = 1; }": 2, "harts 1 task t 0 1 { r[1] = -1; }": 2, "harts 1 task t 0 1 { lock r { x = r[1]; } }": 3, "harts 1 task t 0 1 { lock r { r[1] = 1; } x = -1; }": 2, "harts 1 task t 0 1 { lock r { } lock r { } }": 2,
+		"harts 1": 0, "harts 1 task t 0 1": 0, "harts 1 task t 0 1 {": 1, "harts 1 task t 0 1 { x = 1; }": 1, "harts 1 task t 0 1 { x = (1); }": 2, "harts 1 task t 0 1 { if (1) { } }": 2, "harts 1 task t 0 1 { if (1)": 2, "harts 1 task t 0 1 { if ((1))": 3, "harts 1 task t 0 1 { if (1) { } x = -1; }": 2, "harts 1 task t 0 1 { if": 1, "harts 1 task t 0 1 { if (-1 + -1": 3,
+		"harts 1 task t 0 1 { r[1] = 1; }": 2, "harts 1 task t 0 1 { r": 1, "harts 1 task t 0 1 { r[": 2, "harts 1 task t 0 1 { r[(1)] = 1; }": 3, "harts 1 task t 0 1 { r[1] = -1; }": 2, "harts 1 task t 0 1 { lock r { x = r[1]; } }": 3, "harts 1 task t 0 1 { lock r { r[1] = 1; } x = -1; }": 3, "harts 1 task t 0 1 { lock r { } lock r { } }": 2,
 	} {
 		l, _, _ := token.Scan(text)
 		if got := deepestOf(classesOf(l[:len(l)-1]), 0); got != want {

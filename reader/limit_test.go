@@ -167,22 +167,25 @@ func whole(t *testing.T, text string, deep, n int, open string) {
 	}
 }
 
-// Z1: how deep parts may be in a statement: its own ones are as deep as its block, and those within these go on from there.
+// Z1: how deep parts may be in a statement: its own ones are as deep as its block, those in its parentheses or brackets one deeper, and those within these go on from there.
 func TestDeepestParts(t *testing.T) {
-	for _, s := range [][2]string{{"x = ", ";"}, {"d.1 = ", ";"}, {"r[", "] = 1;"}, {"r[1] = ", ";"}, {"if (", ") { }"}, {"halt; lock r { } x = y.1; x = -1 + ", ";"}, {"r[(1)] = 1 + -1 * ", ";"}} {
+	for _, s := range []struct {
+		open, end string
+		down      int
+	}{{"x = ", ";", 0}, {"d.1 = ", ";", 0}, {"r[", "] = 1;", 1}, {"r[1] = ", ";", 0}, {"if (", ") { }", 1}, {"halt; lock r { } x = y.1; x = -1 + ", ";", 0}, {"r[(1)] = 1 + -1 * ", ";", 0}, {"if (1) { } r[1 + -1 * ", "] = 1;", 1}, {"r[1] = 1; if ((1) - ", ") { }", 1}} {
 		for _, x := range about {
 			for _, blocks := range []int{1, 700} {
 				for _, most := range []int{999, 1000, 1001} {
-					n := (most - blocks) / x.down
-					deep := blocks + n*x.down
+					n := (most - blocks - s.down) / x.down
+					deep := blocks + s.down + n*x.down
 					ahead := "harts 1 task t 0 1 {" + strings.Repeat("lock r{", blocks-1)
-					begin := "\n" + s[0] + strings.Repeat(x.open, n)
+					begin := "\n" + s.open + strings.Repeat(x.open, n)
 					for _, text := range wrongParts[:4] {
 						err, line := orTooDeep(deep, 2)
 						refuses(t, ahead+begin+text, err, line)
 					}
 					refuses(t, ahead+";"+begin, api.ErrSyntax, 1)
-					part := begin + "1" + strings.Repeat(x.end, n) + s[1]
+					part := begin + "1" + strings.Repeat(x.end, n) + s.end
 					err, line := orTooDeep(deep, 3)
 					refuses(t, ahead+part+"\n=", err, line)
 					refuses(t, ahead+"x = (((1)));"+part+"r[-(1)] = -1; lock r { if (2) { } halt; }\n=", err, line)
@@ -198,28 +201,28 @@ func TestDeepestParts(t *testing.T) {
 	}
 }
 
+// further are texts that go so many parts or blocks further down than the block that they stand in.
+var further = [][]string{
+	{"", "\n;", "{", "x", "\nx = 1", "x = 1;\n1", "x = y.1 +", "x = y.\n-", "d.1 = 1;\n\n=", "lock r\n;", "repeat 1", "halt; } {", "\n\nlock", "if", "\nif x", "r", "\nr 1"},
+	{"x = (", "x = -", "x = 1 + !", "x = r[", "d.1 = (;", "if (", "if (\n)", "if (1)", "if (1) ;", "if (1\n{", "if (1) { } else", "if (1 +", "r[", "\nr[]", "r[1", "r[\n1;", "r[1] = 1; r[1", "r[1] = ~;", "r[1] = r[\n;", "lock r {", "repeat 2 { 1", "if (1) { else", "x = 1; if (1) {"},
+	{"r[(", "r[1 - -", "r[\n-", "r[r[", "if ((", "if (r[", "if (1 + -", "if (\n1 * (;", "lock r { if (", "if (1) { x = (", "repeat 1 { r[\n"},
+}
+
 // Z1: how deep blocks may be: a block counts once it is begun, and what is in its statements themselves is as deep as it.
 func TestDeepestBlocks(t *testing.T) {
 	for _, x := range aboutBlocks {
 		for _, n := range timesAbout(x.down) {
 			deep := 1 + n*x.down
 			ahead := "harts 1 task t 0 1 {" + strings.Repeat(x.open, n)
-			for _, text := range []string{"", "\n;", "{", "x", "\nx = 1", "x = 1;\n1", "x = y.1 +", "x = y.\n-", "r[1] = 1; r[1", "r[\n1;", "d.1 = 1;\n\n=", "if (1)", "if (1) ;", "if (1\n{", "lock r\n;", "repeat 1", "halt; } {", "\n\nlock", "if (1) { } else"} {
-				inner := deep
-				if strings.Contains(text, "{ }") {
-					inner++
+			for down, texts := range further {
+				for _, text := range texts {
+					err, line := orTooDeep(deep+down, wrongLine(text, 1))
+					refuses(t, ahead+text, err, line)
 				}
-				err, line := orTooDeep(inner, wrongLine(text, 1))
-				refuses(t, ahead+text, err, line)
-			}
-			// One further down than the block.
-			for _, text := range []string{"x = (", "x = -", "x = 1 + !", "x = r[", "d.1 = (;", "r[(", "r[1 - -", "r[1] = ~;", "if ((", "if (r[", "lock r {", "repeat 2 { 1", "if (1) { else", "x = 1; if (1) {"} {
-				err, line := orTooDeep(deep+1, 2)
-				refuses(t, ahead+"\n"+text, err, line)
 			}
 			all := ahead + strings.Repeat(x.end, n) + "}"
 			err, line := orTooDeep(deep, 2)
-			refuses(t, ahead+"x = 1; r[1] = 1;"+strings.Repeat(x.end, n)+"}\n}", err, line)
+			refuses(t, ahead+"x = 1; d.1 = 1;"+strings.Repeat(x.end, n)+"}\n}", err, line)
 			refuses(t, "harts 1 task t 0 1 {\n;"+all, api.ErrSyntax, 2)
 			// What is behind is not deeper for what was ahead.
 			refuses(t, all+" task t 0 1 { x = (1); lock r { if (-1) { } } }\n}", err, line)
@@ -228,7 +231,11 @@ func TestDeepestBlocks(t *testing.T) {
 			}
 			// A block that is not begun does not count.
 			if cut, ok := strings.CutSuffix(ahead, "{"); ok && n > 0 && strings.Count(x.open, "{") == x.down {
-				err, line := orTooDeep(deep-1, 2)
+				inner := deep - 1
+				if strings.Contains(x.open, "if") {
+					inner = deep
+				}
+				err, line := orTooDeep(inner, 2)
 				refuses(t, cut+"\n;", err, line)
 				refuses(t, cut+"\n", err, line)
 			}

@@ -69,7 +69,7 @@ func (r *reader) stmt(deep int) api.Stmt {
 
 func (r *reader) ifStmt(deep int) api.Stmt {
 	r.must("(")
-	s := api.Stmt{Kind: api.StmtIf, Args: []api.Expr{r.exprTo(")", deep)}, Then: r.block(deep + 1)}
+	s := api.Stmt{Kind: api.StmtIf, Args: []api.Expr{r.exprTo(")", deep+1)}, Then: r.block(deep + 1)}
 	if r.take("else") {
 		s.Else = r.block(deep + 1)
 	}
@@ -84,7 +84,7 @@ func (r *reader) namedStmt(deep int) api.Stmt {
 		s.Kind, s.N = api.StmtPut, r.number()
 		r.must("=")
 	case r.take("["):
-		s.Kind, s.Args = api.StmtStore, []api.Expr{r.exprTo("]", deep)}
+		s.Kind, s.Args = api.StmtStore, []api.Expr{r.exprTo("]", deep+1)}
 		r.must("=")
 	default:
 		r.must("=")
