@@ -152,6 +152,15 @@ func TestFlush(t *testing.T) {
 	}
 }
 
+// S1 to S4: the last hart and the last word of the most that there may be.
+func TestLast(t *testing.T) {
+	play(t, "the most", 4, 4096, []step{
+		ok(put(3, 4095, 5)), is(load(3, 4095), 5), is(load(0, 4095), 0), ok(drain(3, 0)), is(load(0, 4095), 5), is(load(0, 4094), 0),
+		is(reserve(3, 4095), 5), is(change(0, 4094, api.OpAdd, 8), 0), stores(conditional(3, 4095, 6), true), is(change(0, 4095, api.OpAdd, 7), 6), ok(put(3, 0, 9)), ok(flush(3)), is(load(2, 0), 9),
+		fails(load(3, 4096), api.ErrArg), fails(put(3, 4096, 1), api.ErrArg), fails(reserve(3, 4096), api.ErrArg), fails(conditional(3, 4096, 1), api.ErrArg), fails(change(3, 4096, 0, 1), api.ErrArg), fails(flush(4), api.ErrArg),
+	})
+}
+
 // S3, S4: what goes to memory ends what other harts have reserved of that word, and nothing else.
 func TestReservedEnds(t *testing.T) {
 	held := []act{reserve(0, 1), reserve(1, 1), reserve(2, 2), reserve(3, 1)}
